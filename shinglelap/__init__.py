@@ -1,0 +1,1 @@
+"""Shinglelap: roofs laid course by course, joints never near joints beneath."""
