@@ -93,12 +93,13 @@ class JointsTest(unittest.TestCase):
 
     def test_new_at_each_call(self):
         for row in ([], [4], [2, 3, 4]):
-            first = joints(row)
+            handed = list(row)
+            first = joints(handed)
             expected = list(first)
             first.append(99)
-            self.assertEqual(joints(row), expected)
-            self.assertIsNot(joints(row), joints(row))
-            self.assertIsNot(joints(row), row)
+            self.assertEqual(handed, row)
+            self.assertEqual(joints(handed), expected)
+            self.assertIsNot(joints(handed), joints(handed))
 
     def test_read_at_the_call_alone(self):
         row = [2, 3, 4]
@@ -173,7 +174,8 @@ class FillsTest(unittest.TestCase):
         self.check(12, [2], [2] * 6, True)
 
     def test_empty_row(self):
-        for eaves in range(1, 13):
+        # Eaves of 0 are out of a plan's range, but a row of no number fills nothing, whatever its sum.
+        for eaves in range(13):
             self.check(eaves, [2, 3], [], False)
 
     def test_a_number_that_is_no_width(self):
@@ -280,11 +282,12 @@ class MirroredRowTest(unittest.TestCase):
     def test_new_at_each_call(self):
         for row, expected in self.ROWS:
             with self.subTest(row=row):
-                first = mirrored_row(row)
-                self.assertIsNot(first, row)
+                handed = list(row)
+                first = mirrored_row(handed)
                 first.append(99)
-                self.assertEqual(mirrored_row(row), expected)
-                self.assertIsNot(mirrored_row(row), mirrored_row(row))
+                self.assertEqual(handed, row)
+                self.assertEqual(mirrored_row(handed), expected)
+                self.assertIsNot(mirrored_row(handed), mirrored_row(handed))
 
     def test_read_at_the_call_alone(self):
         row = [2, 3, 4]
