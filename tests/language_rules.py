@@ -60,10 +60,36 @@ EXPRESSIONS = (
     ast.Tuple, ast.Slice,
 )
 WALKED_AT_ONCE = ("zip", "enumerate", "reversed", "range", "items", "keys", "values")
+WALKERS = ("list", "tuple", "dict", "sorted", "sum", "any", "all", "enumerate", "zip")
+CHANGES = ("append", "clear", "extend", "insert", "pop", "remove", "reverse", "setdefault", "update")
+
+KEYWORDS_OF_PYTHON = {
+    "sorted": ("key", "reverse"),
+    "min": ("key", "default"),
+    "max": ("key", "default"),
+    "sum": ("start",),
+    "enumerate": ("start",),
+    "zip": ("strict",),
+}
+KINDS_ASKED = ("int", "str", "bool", "list", "tuple", "dict")
+KEYS_OF_PYTHON = ("len", "int", "str", "abs", "sum", "min", "max", "tuple")
+
+TAKEN_FREELY = ("KeyError", "ZeroDivisionError", "StopIteration")
+TAKEN_NARROWLY = {
+    "ValueError": ("int", "str", "index", "remove"),
+    "LookupError": ("int", "str", "index", "remove"),
+    "IndexError": (),
+}
+
+NAMES_WITHIN_VALUES = tuple(name for kind in (str, int, list, dict, set, bytes) for name in dir(kind))
+VALUE_NAMES_LENT = "count index title find get join lower upper split strip copy add".split()
+VALUE_NAMES_BARRED = (
+    "items keys values pop update append clear extend insert remove reverse setdefault sort args encode format"
+).split()
 
 
 def text_faults(text):
-    """L10, L14 and L17: sizes of the file and its lines, signs, words that stand nowhere."""
+    """L10, L14, L17 and L27: sizes of the file and its lines, signs, escapes, words that stand nowhere."""
     faults = []
     lines = text.split("\n")
     if len(text.splitlines()) > 400:
@@ -76,6 +102,9 @@ def text_faults(text):
         for sign in line:
             if not " " <= sign <= "~":
                 faults.append(("L14", number, f"the sign {sign!r}"))
+        for sign in re.findall(r"\\(.)", line):
+            if sign not in "nt\\'\"":
+                faults.append(("L27", number, f"the escape {sign!r}"))
         for word in re.findall("[A-Za-z0-9_]+", line):
             if word in BANNED_WORDS or any(part in word for part in BANNED_PARTS):
                 faults.append(("L17", number, f"the word {word}"))
@@ -184,18 +213,255 @@ def called_name(node):
     return getattr(node.func, "id", getattr(node.func, "attr", None))
 
 
+def parents(tree):
+    """For each node the one that it stands straight within."""
+    return {part: node for node in ast.walk(tree) for part in ast.iter_child_nodes(node)}
+
+
+def is_walked_at_once(node, parent):
+    if isinstance(parent, (ast.For, ast.comprehension)):
+        return parent.iter is node
+    if not isinstance(parent, ast.Call) or node not in parent.args:
+        return False
+    if called_name(parent) in WALKERS:
+        return parent.args[0] is node
+    if called_name(parent) == "join":
+        return isinstance(parent.func.value, ast.Constant)
+    return called_name(parent) in ("min", "max") and len(parent.args) == 1
+
+
+def is_asked_at_once(node, above):
+    signs = (ast.Sub, ast.BitAnd, ast.BitOr, ast.BitXor)
+    while isinstance(above[node], ast.BinOp) and isinstance(above[node].op, signs):
+        node = above[node]
+    parent = above[node]
+    if isinstance(parent, ast.Compare):
+        return all(isinstance(sign, (ast.In, ast.NotIn, ast.Eq, ast.NotEq)) for sign in parent.ops)
+    return called_name(parent) in ("sorted", "len") and node in parent.args and not parent.keywords
+
+
 def kept_faults(tree):
-    """L23 and L24: what is to be walked or asked on the spot, not kept."""
+    """L13, L23 and L24: what is to be walked or asked on the spot, not kept."""
+    faults = []
+    above = parents(tree)
+    for node in ast.walk(tree):
+        if called_name(node) in WALKED_AT_ONCE and not is_walked_at_once(node, above[node]):
+            faults.append(("L23", node.lineno, ast.unparse(node)))
+        if isinstance(node, ast.Set) or called_name(node) in ("set", "frozenset"):
+            if not is_asked_at_once(node, above):
+                faults.append(("L24", node.lineno, ast.unparse(node)))
+        if isinstance(node, ast.Set) and len(node.elts) >= 3:
+            parent = above[node]
+            if not (isinstance(parent, ast.Compare) and isinstance(parent.ops[-1], (ast.In, ast.NotIn))):
+                faults.append(("L13", node.lineno, ast.unparse(node)))
+    return faults
+
+
+def changed_within(node):
+    """What is changed within a node, as texts."""
+    changed = []
+    for part in ast.walk(node):
+        if isinstance(part, ast.Call) and isinstance(part.func, ast.Attribute) and part.func.attr in CHANGES:
+            changed.append(ast.unparse(part.func.value))
+        if isinstance(part, ast.Subscript) and not isinstance(part.ctx, ast.Load):
+            changed.append(ast.unparse(part.value))
+    return changed
+
+
+def walked_by(node):
+    """What a walk goes through, itself or through enumerate and its like, as texts."""
+    if called_name(node) in ("items", "keys", "values") and isinstance(node.func, ast.Attribute):
+        return [ast.unparse(node.func.value)]
+    if called_name(node) in ("enumerate", "zip", "reversed"):
+        return [text for part in node.args for text in walked_by(part)]
+    return [ast.unparse(node)]
+
+
+def change_faults(tree):
+    """L15 and L23: what the top keeps and what a loop walks is not changed."""
     faults = []
     for node in ast.walk(tree):
-        if isinstance(node, (ast.Assign, ast.AugAssign, ast.AnnAssign, ast.Return)):
-            if called_name(node.value) in WALKED_AT_ONCE:
-                faults.append(("L23", node.lineno, ast.unparse(node)))
-        kept = getattr(node, "iter", None)
-        if isinstance(node, (ast.Assign, ast.Return)):
-            kept = node.value
-        if isinstance(kept, ast.Set) or called_name(kept) in ("set", "frozenset"):
-            faults.append(("L24", kept.lineno, ast.unparse(kept)))
+        if isinstance(node, ast.For):
+            changed = [text for part in node.body for text in changed_within(part)]
+            faults += [("L23", node.lineno, f"{text} is changed") for text in walked_by(node.iter) if text in changed]
+    given = [node for node in tree.body if isinstance(node, ast.Assign)]
+    plain = [node for node in given if isinstance(node.value, (ast.List, ast.Dict))]
+    kept = [name for node in plain for name, line in bound_names(node)]
+    for node in plain:
+        if any(isinstance(part, (ast.List, ast.Dict)) for part in ast.walk(node.value) if part is not node.value):
+            faults.append(("L15", node.lineno, "a list or a dict within one of the top"))
+    faults += [("L15", 0, f"{text} is changed") for text in changed_within(tree) if text in kept]
+    for node in ast.walk(tree):
+        if isinstance(node, (ast.Assign, ast.Return)) and getattr(node.value, "id", None) in kept:
+            faults.append(("L15", node.lineno, f"{node.value.id} is handed on"))
+    return faults
+
+
+def annotations(tree):
+    """Every node within an annotation."""
+    told = []
+    for node in ast.walk(tree):
+        told += [getattr(node, field, None) for field in ("annotation", "returns")]
+    return [part for node in told if node is not None for part in ast.walk(node)]
+
+
+def annotation_faults(tree):
+    """L21: where no annotation stands."""
+    faults = []
+    for node in ast.walk(tree):
+        if isinstance(node, ast.AnnAssign) and not (node.value and isinstance(node.target, ast.Name)):
+            faults.append(("L21", node.lineno, ast.unparse(node)))
+        if isinstance(node, ast.FunctionDef):
+            inner = [part for part in ast.walk(node) if isinstance(part, ast.FunctionDef) and part is not node]
+            faults += [("L21", part.lineno, "annotated within a def") for part in inner if annotations(part)]
+    return faults
+
+
+def own_classes(tree):
+    defined = [node.name for node in tree.body if isinstance(node, ast.ClassDef)]
+    drawn = [name for node in tree.body if isinstance(node, ast.ImportFrom) for name, line in bound_names(node)]
+    return defined + [name for name in drawn if name[0].isupper() and not name.isupper()]
+
+
+def stands_as_class(node, above):
+    """Whether a name stands where a class may: as a base, beside `isinstance` or behind `except`."""
+    parent = above[node]
+    if isinstance(parent, ast.Tuple):
+        node, parent = parent, above[parent]
+    if called_name(parent) == "isinstance":
+        return parent.args[1:] == [node]
+    return isinstance(parent, (ast.ClassDef, ast.ExceptHandler))
+
+
+def value_faults(tree):
+    """L18 and L22: classes, and functions of Python's own, are not kept as values."""
+    faults = []
+    above = parents(tree)
+    classes = own_classes(tree)
+    aside = annotations(tree)
+    for node in ast.walk(tree):
+        if not isinstance(node, ast.Name) or not isinstance(node.ctx, ast.Load) or node in aside:
+            continue
+        parent = above[node]
+        called = isinstance(parent, ast.Call) and parent.func is node
+        if called or stands_as_class(node, above):
+            continue
+        base = isinstance(parent, ast.Attribute) and parent.attr == "__init__"
+        if node.id in classes and not base:
+            faults.append(("L18", node.lineno, f"{node.id} as a value"))
+        key = isinstance(parent, ast.keyword) and parent.arg == "key" and node.id in KEYS_OF_PYTHON
+        if node.id in OWN_NAMES_OF_PYTHON and not key:
+            faults.append(("L22", node.lineno, f"{node.id} as a value"))
+    return faults
+
+
+def is_error(name):
+    return issubclass(getattr(builtins, name), Exception) if name[0].isupper() else False
+
+
+def keyword_is_plain(name, keyword):
+    if keyword.arg in ("reverse", "strict") and not isinstance(keyword.value, ast.Constant):
+        return False
+    return keyword.arg in KEYWORDS_OF_PYTHON.get(name, ())
+
+
+def call_faults(tree):
+    """L22: how Python's own functions and methods are called."""
+    faults = []
+    for node in ast.walk(tree):
+        if not isinstance(node, ast.Call):
+            continue
+        name = called_name(node)
+        own_of_python = name in (OWN_NAMES_OF_PYTHON if isinstance(node.func, ast.Name) else METHODS_OF_PYTHON)
+        if own_of_python and not all(keyword_is_plain(name, keyword) for keyword in node.keywords):
+            faults.append(("L22", node.lineno, ast.unparse(node)))
+        if name == "isinstance":
+            kinds = [part.id for part in ast.walk(node.args[-1]) if isinstance(part, ast.Name)]
+            barred = [kind for kind in kinds if kind in OWN_NAMES_OF_PYTHON and kind not in KINDS_ASKED]
+            faults += [("L22", node.lineno, f"isinstance beside {kind}") for kind in barred if not is_error(kind)]
+    return faults
+
+
+def narrow_body_is_plain(body, names):
+    """Whether only these names are called within, and nothing else could raise the error taken."""
+    if len(body) > 1:
+        return False
+    for node in ast.walk(body[0]):
+        if isinstance(node, ast.Call) and called_name(node) not in names:
+            return False
+        if isinstance(node, (ast.JoinedStr, ast.Slice, ast.Lambda)):
+            return False
+        if isinstance(node, (ast.Mult, ast.Pow, ast.Mod, ast.LShift, ast.RShift)):
+            return False
+    return True
+
+
+def handler_faults(node):
+    faults = []
+    for handler in node.handlers:
+        kinds = ast.walk(handler.type) if handler.type else ()
+        for name in [part.id for part in kinds if isinstance(part, ast.Name)]:
+            if name in TAKEN_NARROWLY:
+                if not narrow_body_is_plain(node.body, TAKEN_NARROWLY[name]):
+                    faults.append(("L19", handler.lineno, f"{name} is taken round too much"))
+            elif name in OWN_NAMES_OF_PYTHON and name not in TAKEN_FREELY:
+                faults.append(("L19", handler.lineno, f"{name} is taken"))
+    return faults
+
+
+def error_faults(tree):
+    """L19: how errors are raised and taken."""
+    faults = []
+    for node in ast.walk(tree):
+        if isinstance(node, ast.Try):
+            faults += handler_faults(node)
+        if isinstance(node, ast.Raise):
+            if not isinstance(node.exc, ast.Call) or node.exc.keywords:
+                faults.append(("L19", node.lineno, ast.unparse(node)))
+            taken = [part.name for part in ast.walk(tree) if isinstance(part, ast.ExceptHandler)]
+            if node.cause is not None and ast.unparse(node.cause) not in taken + ["None"]:
+                faults.append(("L19", node.lineno, ast.unparse(node)))
+    return faults
+
+
+def attribute_name_faults(tree):
+    """L26: the names of own methods and values."""
+    faults = []
+    for name in own_methods(tree):
+        lent = METHODS_OF_PYTHON + ["add", "discard"] + list(DUNDER_METHODS)
+        if name in NAMES_WITHIN_VALUES and name not in lent:
+            faults.append(("L26", 0, f"the method {name}"))
+    for name in own_values(tree):
+        if name in VALUE_NAMES_BARRED or name in NAMES_WITHIN_VALUES and name not in VALUE_NAMES_LENT:
+            faults.append(("L26", 0, f"the value {name}"))
+    return faults
+
+
+def dunder_return_is_plain(name, value):
+    if name == "__init__":
+        return value is None
+    if name == "__len__":
+        return called_name(value) == "len" or isinstance(value, ast.Constant)
+    if name in ("__repr__", "__str__"):
+        written = isinstance(value, (ast.Constant, ast.JoinedStr))
+        joined = called_name(value) == "join" and isinstance(value.func.value, ast.Constant)
+        return written or joined or called_name(value) in ("str", "repr")
+    return True
+
+
+def dunder_faults(tree):
+    """L28: the methods with two underscores."""
+    faults = []
+    for node in ast.walk(tree):
+        if not (isinstance(node, ast.FunctionDef) and node.name in DUNDER_METHODS):
+            continue
+        for part in ast.walk(node):
+            if isinstance(part, ast.Return) and not dunder_return_is_plain(node.name, part.value):
+                faults.append(("L28", part.lineno, ast.unparse(part)))
+            if node.name != "__init__" and (isinstance(part, ast.AugAssign) or own_values(part)):
+                faults.append(("L28", node.lineno, f"{node.name} stores"))
+        if node.name != "__init__" and changed_within(node):
+            faults.append(("L28", node.lineno, f"{node.name} changes"))
     return faults
 
 
@@ -203,6 +469,8 @@ def constant_rule(value):
     if isinstance(value, (float, complex, bytes)):
         return "L7"
     if isinstance(value, str) and "%" in value:
+        return "L27"
+    if isinstance(value, int) and abs(value) >= 10 ** 900:
         return "L27"
     return None
 
@@ -359,6 +627,13 @@ def source_faults(text, main=False, own_attributes=()):
         + class_faults(tree)
         + statement_faults(tree)
         + kept_faults(tree)
+        + change_faults(tree)
+        + annotation_faults(tree)
+        + value_faults(tree)
+        + call_faults(tree)
+        + error_faults(tree)
+        + attribute_name_faults(tree)
+        + dunder_faults(tree)
         + expression_faults(tree)
         + bound_faults(tree)
         + shadow_faults(tree)

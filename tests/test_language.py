@@ -16,12 +16,18 @@ from shinglelap.errors import NoRoof
 
 LIMIT = 20
 NAMES = ("one", "two")
+PLACES = {"one": 1, "two": 2}
+ORDER = ["one", "two"]
 
 
 class Pile:
     def __init__(self, rows):
         self.rows = list(rows)
         self.tall = 0
+        self.count = 0
+
+    def __len__(self):
+        return len(self.rows)
 
     def grow(self, row=None):
         if row is None:
@@ -29,6 +35,17 @@ class Pile:
         self.tall += len(row) ** 2
         self.rows.append([number for number in row if number > 0])
         return sorted(self.rows, key=lambda each: each[0])
+
+
+class Heap(Pile):
+    def __init__(self, rows):
+        Pile.__init__(self, rows)
+
+    def __repr__(self):
+        return repr(self.rows)
+
+    def longest(self):
+        return max(self.rows, key=len, default=None)
 
 
 def walked(pairs):
@@ -40,6 +57,29 @@ def walked(pairs):
         if found in (1, 2) and not key == 3:
             break
     return [list(reversed(NAMES)), {1: True}, "x" if pairs else "y"]
+
+
+def placed(text, others):
+    try:
+        return int(text)
+    except ValueError as e:
+        raise NoRoof("no number") from e
+
+
+def told(value, others):
+    if isinstance(value, Pile) or isinstance(value, (int, NoRoof)):
+        return list(ORDER)
+    known = len(set(others) - set(ORDER)) + PLACES["one"]
+    for place, each in enumerate(others, start=1):
+        known = known + place
+    return ", ".join([str(known)]) in {"a", "b"}
+
+
+def guarded(value):
+    try:
+        return told(value, NAMES)
+    except NoRoof:
+        return "a\\tb"
 '''
 
 BAD = (
@@ -96,6 +136,7 @@ BAD = (
     ("L12", "def _hidden():\n    return 1\n"),
     ("L12", "def made(row):\n    return [1 for _ in row]\n"),
     ("L12", "class Pile:\n    def __init__(self):\n        self._row = 1\n"),
+    ("L13", "def made(row):\n    return len({1, 2, 3})\n"),
     ("L14", "# a dash \u2013 and a quote \u2019\n"),
     ("L14", "LIMIT = 1\r\n"),
     ("L15", "LIMIT = 1\nLIMIT = 2\n"),
@@ -104,6 +145,11 @@ BAD = (
     ("L15", "class Pile:\n    pass\n\n\ndef made(Pile):\n    return 1\n"),
     ("L15", "from shinglelap.rows import joints\n\n\ndef made(row):\n    joints = row\n    return 1\n"),
     ("L15", "def made():\n    class Pile:\n        pass\n"),
+    ("L15", "NAMES = ['one']\n\n\ndef made():\n    NAMES.append('two')\n"),
+    ("L15", "NAMES = ['one']\n\n\ndef made():\n    NAMES[0] = 'two'\n"),
+    ("L15", "NAMES = ['one']\n\n\ndef made():\n    return NAMES\n"),
+    ("L15", "NAMES = ['one']\n\n\ndef made():\n    own = NAMES\n    return 1\n"),
+    ("L15", "NAMES = [['one'], 'two']\n"),
     ("L16", "import shinglelap.errors\n"),
     ("L16", "import sys\n"),
     ("L17", "# the type of it\n"),
@@ -114,14 +160,57 @@ BAD = (
     ("L17", "def made(row):\n    return row.f_back\n"),
     ("L17", "def made(row):\n    return row.format(1)\n"),
     ("L18", "class Pile:\n    def one(self):\n        return 1\n\n    def one(self):\n        return 2\n"),
+    ("L18", "class Pile:\n    pass\n\n\ndef made():\n    return Pile\n"),
+    ("L18", "from shinglelap.errors import NoRoof\n\n\ndef made():\n    return [NoRoof]\n"),
+    ("L19", "def made(row):\n    try:\n        row.pop()\n    except Exception:\n        return 1\n"),
+    ("L19", "def made(row):\n    try:\n        row.pop()\n    except (KeyError, TypeError):\n        return 1\n"),
+    ("L19", "def made(row):\n    try:\n        made(row)\n    except ValueError:\n        return 1\n"),
+    ("L19", "def made(row):\n    try:\n        int(row)\n        pass\n    except ValueError:\n        return 1\n"),
+    ("L19", "def made(row):\n    try:\n        return int(row * 2)\n    except ValueError:\n        return 1\n"),
+    ("L19", "def made(row):\n    try:\n        return int(row[1:])\n    except ValueError:\n        return 1\n"),
+    ("L19", "def made(row):\n    try:\n        return made(row)[0]\n    except IndexError:\n        return 1\n"),
+    ("L19", "from shinglelap.errors import NoRoof\n\n\ndef made():\n    raise NoRoof\n"),
+    ("L19", "from shinglelap.errors import NoRoof\n\n\ndef made(own):\n    raise NoRoof('') from own\n"),
     ("L20", "def made(row):\n    return row is 1\n"),
+    ("L21", "def made(row):\n    own: int\n    return 1\n"),
+    ("L21", "def made(row):\n    row[0]: int = 1\n    return 1\n"),
+    ("L21", "class Pile:\n    def __init__(self):\n        self.tall: int = 1\n"),
+    ("L21", "def made(row):\n    def inner(own: int):\n        return own\n\n    return inner(row)\n"),
+    ("L22", "def made(row):\n    own = len\n    return own(row)\n"),
+    ("L22", "def made(row):\n    return sorted(row, key=reversed)\n"),
+    ("L22", "def made(row, own):\n    return sorted(row, reverse=own)\n"),
+    ("L22", "def made(row):\n    return int(row, base=2)\n"),
+    ("L22", "def made(row):\n    return row.split(sep='a')\n"),
+    ("L22", "def made(row):\n    return isinstance(row, set)\n"),
     ("L23", "def made(row):\n    pairs = zip(row, row)\n    return 1\n"),
     ("L23", "def made(row):\n    return reversed(row)\n"),
+    ("L23", "def made(row):\n    return made(range(3))\n"),
+    ("L23", "def made(row):\n    return 1 in row.values()\n"),
+    ("L23", "def made(row):\n    return max(1, range(3))\n"),
+    ("L23", "def made(row):\n    return list(zip(row, reversed(row)))\n"),
+    ("L23", "def made(row):\n    for each in row:\n        row.append(each)\n"),
+    ("L23", "def made(row):\n    for place, each in enumerate(row):\n        row[place] = 1\n"),
+    ("L23", "def made(row):\n    for key, value in row.items():\n        row.pop(key)\n        return 1\n"),
+    ("L24", "def made(row):\n    return sum(set(row))\n"),
+    ("L24", "def made(row):\n    return sorted(set(row), reverse=True)\n"),
+    ("L24", "def made(row):\n    return [set(row)]\n"),
+    ("L24", "def made(row):\n    return set(row) < set(row)\n"),
     ("L24", "def made(row):\n    own = set(row)\n    return 1\n"),
     ("L24", "def made(row):\n    for each in set(row):\n        pass\n"),
     ("L25", "def made(row):\n    row.sort()\n"),
+    ("L26", "class Pile:\n    def __init__(self):\n        self.items = 1\n"),
+    ("L26", "class Pile:\n    def __init__(self):\n        self.args = 1\n"),
+    ("L26", "class Pile:\n    def __init__(self):\n        self.real = 1\n"),
+    ("L26", "class Pile:\n    def sort(self):\n        return 1\n"),
+    ("L27", "def made(row):\n    return 'a\\x41'\n"),
+    ("L27", "LIMIT = 1" + "0" * 900 + "\n"),
     ("L27", "def made(row):\n    return 2 ** row\n"),
     ("L27", "def made(row):\n    return 'half: 50%'\n"),
+    ("L28", "class Pile:\n    def __init__(self):\n        return None\n"),
+    ("L28", "class Pile:\n    def __len__(self):\n        return self.tall\n"),
+    ("L28", "class Pile:\n    def __str__(self):\n        return self.told()\n"),
+    ("L28", "class Pile:\n    def __eq__(self, other):\n        self.tall = 1\n        return True\n"),
+    ("L28", "class Pile:\n    def __eq__(self, other):\n        self.rows.append(1)\n        return True\n"),
 )
 
 BAD_PACKAGES = (
@@ -180,7 +269,9 @@ class PackageTest(unittest.TestCase):
 
     def test_the_files_are_there(self):
         names = [path.name for path in package_files()]
-        for name in ("__init__.py", "errors.py", "rows.py", "distances.py"):
+        for name in (
+            "__init__.py", "errors.py", "rows.py", "distances.py", "plan.py", "pairs.py", "heights.py",
+        ):
             self.assertIn(name, names)
 
 

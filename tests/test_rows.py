@@ -4,37 +4,9 @@ import inspect
 import itertools
 import unittest
 
+from by_the_words import FAR_OUT, all_marks, all_rows, earlier_by_the_words
 from shinglelap import rows
 from shinglelap.rows import earlier, fills, joints, mirrored_row, row_of
-
-FAR_OUT = 10 ** 30 - 1
-
-
-def all_marks(eaves):
-    places = range(1, eaves)
-    for size in range(eaves):
-        yield from itertools.combinations(places, size)
-
-
-def all_rows(eaves):
-    """Every row of numbers from 1 up with the sum `eaves`, made by its first number."""
-    if eaves == 0:
-        return [[]]
-    return [[first] + rest for first in range(1, eaves + 1) for rest in all_rows(eaves - first)]
-
-
-def earlier_by_the_words(one, other):
-    """Point 4, step by step."""
-    one_joints = [sum(one[:size]) for size in range(1, len(one))]
-    other_joints = [sum(other[:size]) for size in range(1, len(other))]
-    for place in range(max(len(one_joints), len(other_joints))):
-        if place >= len(one_joints):
-            return True
-        if place >= len(other_joints):
-            return False
-        if one_joints[place] != other_joints[place]:
-            return one_joints[place] < other_joints[place]
-    return False
 
 
 class InterfaceTest(unittest.TestCase):
