@@ -111,3 +111,80 @@ def ends_by_the_words(near, far):
             ends.append(sorted({(roof[-2], roof[-1]) for roof in roofs}))
         roofs = roofs_one_higher(near, far, roofs)
     return height, ends
+
+
+def tables_of(measures):
+    """The tables `near` and `far` of a plan's courses; `measures` are (eaves, widths, near, far)."""
+    eaves, widths, near, far = measures
+    rows = courses_by_the_words(eaves, widths)
+    return table_by_the_words(rows, near), table_by_the_words(rows, far)
+
+
+def roofs_by_height(near, far, most):
+    """All roofs of each height from 0 to `most`, put together course by course, in the order of point 10."""
+    roofs = [[[]]]
+    for height in range(1, most + 1):
+        roofs.append(roofs_one_higher(near, far, roofs[-1]))
+    return roofs
+
+
+def pairs_one_higher(near, far, pairs):
+    """How many roofs one course higher have which two courses last; `pairs` tells it of their height."""
+    found = {}
+    for (lower, upper), many in pairs.items():
+        for number in range(len(near)):
+            if near[upper][number] and far[lower][number]:
+                found[upper, number] = found.get((upper, number), 0) + many
+    return found
+
+
+def ended_by_pairs(near, far, most):
+    """Point 9, from height 1 to `most`: how many roofs end with each course, reckoned by pairs of courses."""
+    numbers = range(len(near))
+    ended = [[1 for number in numbers]]
+    pairs = {(lower, upper): 1 for lower in numbers for upper in numbers if near[lower][upper]}
+    while len(ended) < most:
+        ended.append([sum(many for pair, many in pairs.items() if pair[1] == number) for number in numbers])
+        pairs = pairs_one_higher(near, far, pairs)
+    return ended
+
+
+def begun_by_pairs(near, far, most):
+    """The same of the course that roofs begin with: each is put together from its highest course downwards."""
+    upper_first_near = [list(column) for column in zip(*near)]
+    upper_first_far = [list(column) for column in zip(*far)]
+    return ended_by_pairs(upper_first_near, upper_first_far, most)
+
+
+def steps_reached(near, far, laid, most):
+    """How many courses can follow those that lie, `most` at the most."""
+    ends = {tuple(laid[-2:])}
+    for steps in range(most):
+        above = {tuple(roof[-2:]) for roof in roofs_one_higher(near, far, [list(end) for end in ends])}
+        if not above:
+            return steps
+        ends = above
+    return most
+
+
+def way_on_by_the_words(near, far, laid, height):
+    """Point 11, step by step: at each place the least course that still leads to the height reached."""
+    reached = len(laid) + steps_reached(near, far, laid, max(0, height - len(laid)))
+    roof = list(laid)
+    while len(roof) < reached:
+        left = reached - len(roof) - 1
+        upon = roofs_one_higher(near, far, [roof])
+        roof = next(higher for higher in upon if steps_reached(near, far, higher, left) == left)
+    return reached, roof[len(laid):]
+
+
+def first_way_by_all_ways(near, far, laid, height):
+    """Point 11, from all ways on put together course by course."""
+    roofs = [list(laid)]
+    while len(roofs[0]) < height:
+        higher = roofs_one_higher(near, far, roofs)
+        if not higher:
+            break
+        roofs = higher
+    first = min(roofs)
+    return len(first), first[len(laid):]

@@ -19,6 +19,11 @@ ALLOWED_OF_PYTHON = (
     "StopIteration"
 ).split()
 
+ERROR_BASES = (
+    "Exception ValueError TypeError KeyError IndexError LookupError ZeroDivisionError ArithmeticError "
+    "OverflowError RuntimeError NotImplementedError"
+).split()
+
 DUNDER_METHODS = ("__init__", "__eq__", "__repr__", "__str__", "__len__")
 DUNDER_NAMES = ("__all__", "__version__", "__name__")
 
@@ -159,12 +164,21 @@ def function_faults(tree):
             inputs = node.args
             if inputs.vararg or inputs.kwarg or inputs.kwonlyargs or inputs.posonlyargs:
                 faults.append(("L4", node.lineno, "a parameter that is not plain"))
+            if any(isinstance(part, (ast.Call, ast.Name)) for value in inputs.defaults for part in ast.walk(value)):
+                faults.append(("L4", node.lineno, "a default that is no plain value"))
         if isinstance(node, ast.FunctionDef):
             if node.decorator_list:
                 faults.append(("L4", node.lineno, "a decorator"))
             if node.end_lineno - node.lineno + 1 > 40:
                 faults.append(("L10", node.lineno, "a function of more than 40 lines"))
     return faults
+
+
+def lambda_faults(tree):
+    """L13: no two lambdas with the same parameters on one line."""
+    nodes = [node for node in ast.walk(tree) if isinstance(node, ast.Lambda)]
+    stand = [(node.lineno, ast.unparse(node.args)) for node in nodes]
+    return [("L13", each[0], "two lambdas alike") for each in sorted(set(stand)) if stand.count(each) > 1]
 
 
 def class_faults(tree):
@@ -180,6 +194,9 @@ def class_faults(tree):
         for part in node.body:
             if not (isinstance(part, (ast.FunctionDef, ast.Pass)) or is_text(part)):
                 faults.append(("L5", part.lineno, "a value in a class"))
+        for base in [ast.unparse(base) for base in node.bases]:
+            if base in OWN_NAMES_OF_PYTHON and base not in ERROR_BASES:
+                faults.append(("L18", node.lineno, f"a class under {base}"))
         methods = [part.name for part in node.body if isinstance(part, ast.FunctionDef)]
         for name in methods:
             if methods.count(name) > 1:
@@ -277,6 +294,40 @@ def walked_by(node):
     return [ast.unparse(node)]
 
 
+def method_faults(tree, own_attributes):
+    """L25: a method of Python's own values is called where it stands, or is a `key`."""
+    faults = []
+    above = parents(tree)
+    for node in ast.walk(tree):
+        if isinstance(node, ast.Attribute) and node.attr in METHODS_OF_PYTHON and node.attr not in own_attributes:
+            parent = above[node]
+            called = isinstance(parent, ast.Call) and parent.func is node
+            if not called and not (isinstance(parent, ast.keyword) and parent.arg == "key"):
+                faults.append(("L25", node.lineno, f"{node.attr} is handed on"))
+    return faults
+
+
+def given_faults(tree):
+    """L18: values are given through a local name, never to a class or to a name of the file's top."""
+    faults = []
+    top = [name for name, line in top_names(tree)]
+    for node in ast.walk(tree):
+        if isinstance(node, ast.Attribute) and not isinstance(node.ctx, ast.Load):
+            if getattr(node.value, "id", None) in top:
+                faults.append(("L18", node.lineno, ast.unparse(node)))
+    return faults
+
+
+def handed_faults(tree, kept):
+    """L15: a list or a dict of the top is handed on as a copy alone."""
+    faults = []
+    for node in ast.walk(tree):
+        if isinstance(node, ast.Call) and not (isinstance(node.func, ast.Name) and node.func.id in ALLOWED_OF_PYTHON):
+            handed = [getattr(part, "id", None) for part in node.args + [each.value for each in node.keywords]]
+            faults += [("L15", node.lineno, f"{name} is handed on") for name in handed if name in kept]
+    return faults
+
+
 def change_faults(tree):
     """L15 and L23: what the top keeps and what a loop walks is not changed."""
     faults = []
@@ -291,6 +342,7 @@ def change_faults(tree):
         if any(isinstance(part, (ast.List, ast.Dict)) for part in ast.walk(node.value) if part is not node.value):
             faults.append(("L15", node.lineno, "a list or a dict within one of the top"))
     faults += [("L15", 0, f"{text} is changed") for text in changed_within(tree) if text in kept]
+    faults += handed_faults(tree, kept)
     for node in ast.walk(tree):
         if isinstance(node, (ast.Assign, ast.Return)) and getattr(node.value, "id", None) in kept:
             faults.append(("L15", node.lineno, f"{node.value.id} is handed on"))
@@ -306,8 +358,11 @@ def annotations(tree):
 
 
 def annotation_faults(tree):
-    """L21: where no annotation stands."""
-    faults = []
+    """L4 and L21: what stands in an annotation, and where none does."""
+    plain = (
+        ast.Name, ast.Attribute, ast.Subscript, ast.Constant, ast.List, ast.Tuple, ast.BinOp, ast.BitOr, ast.Load,
+    )
+    faults = [("L4", 0, ast.dump(part)) for part in annotations(tree) if not isinstance(part, plain)]
     for node in ast.walk(tree):
         if isinstance(node, ast.AnnAssign) and not (node.value and isinstance(node.target, ast.Name)):
             faults.append(("L21", node.lineno, ast.unparse(node)))
@@ -624,10 +679,13 @@ def source_faults(text, main=False, own_attributes=()):
         + top_faults(tree, main)
         + import_faults(tree, main)
         + function_faults(tree)
+        + lambda_faults(tree)
         + class_faults(tree)
         + statement_faults(tree)
         + kept_faults(tree)
         + change_faults(tree)
+        + method_faults(tree, known)
+        + given_faults(tree)
         + annotation_faults(tree)
         + value_faults(tree)
         + call_faults(tree)

@@ -97,6 +97,9 @@ BAD = (
     ("L4", "def made(row, *, other):\n    return row\n"),
     ("L4", "def made(row, /):\n    return row\n"),
     ("L4", "def wrap(made):\n    return made\n\n\n@wrap\ndef other():\n    return 1\n"),
+    ("L4", "def made(row, other=len):\n    return row\n"),
+    ("L4", "def made(row, other=list()):\n    return row\n"),
+    ("L4", "def made(row: len(1)):\n    return row\n"),
     ("L5", "class Pile:\n    tall = 1\n"),
     ("L5", "class Pile(ValueError, KeyError):\n    pass\n"),
     ("L5", "class Pile:\n    def __add__(self, other):\n        return 1\n"),
@@ -137,6 +140,7 @@ BAD = (
     ("L12", "def made(row):\n    return [1 for _ in row]\n"),
     ("L12", "class Pile:\n    def __init__(self):\n        self._row = 1\n"),
     ("L13", "def made(row):\n    return len({1, 2, 3})\n"),
+    ("L13", "def made(row):\n    return row(lambda one: 1, lambda one: 2)\n"),
     ("L14", "# a dash \u2013 and a quote \u2019\n"),
     ("L14", "LIMIT = 1\r\n"),
     ("L15", "LIMIT = 1\nLIMIT = 2\n"),
@@ -150,6 +154,8 @@ BAD = (
     ("L15", "NAMES = ['one']\n\n\ndef made():\n    return NAMES\n"),
     ("L15", "NAMES = ['one']\n\n\ndef made():\n    own = NAMES\n    return 1\n"),
     ("L15", "NAMES = [['one'], 'two']\n"),
+    ("L15", "NAMES = ['one']\n\n\ndef made():\n    return told(NAMES)\n"),
+    ("L15", "NAMES = ['one']\n\n\ndef made(row):\n    row.append(NAMES)\n"),
     ("L16", "import shinglelap.errors\n"),
     ("L16", "import sys\n"),
     ("L17", "# the type of it\n"),
@@ -162,6 +168,10 @@ BAD = (
     ("L18", "class Pile:\n    def one(self):\n        return 1\n\n    def one(self):\n        return 2\n"),
     ("L18", "class Pile:\n    pass\n\n\ndef made():\n    return Pile\n"),
     ("L18", "from shinglelap.errors import NoRoof\n\n\ndef made():\n    return [NoRoof]\n"),
+    ("L18", "class Pile(StopIteration):\n    pass\n"),
+    ("L18", "class Pile(AttributeError):\n    pass\n"),
+    ("L18", "class Pile(list):\n    pass\n"),
+    ("L18", "class Pile:\n    pass\n\n\ndef made():\n    Pile.tall = 1\n"),
     ("L19", "def made(row):\n    try:\n        row.pop()\n    except Exception:\n        return 1\n"),
     ("L19", "def made(row):\n    try:\n        row.pop()\n    except (KeyError, TypeError):\n        return 1\n"),
     ("L19", "def made(row):\n    try:\n        made(row)\n    except ValueError:\n        return 1\n"),
@@ -198,6 +208,8 @@ BAD = (
     ("L24", "def made(row):\n    own = set(row)\n    return 1\n"),
     ("L24", "def made(row):\n    for each in set(row):\n        pass\n"),
     ("L25", "def made(row):\n    row.sort()\n"),
+    ("L25", "def made(row):\n    grow = row.append\n    return grow(1)\n"),
+    ("L25", "def made(row):\n    return made(row.index)\n"),
     ("L26", "class Pile:\n    def __init__(self):\n        self.items = 1\n"),
     ("L26", "class Pile:\n    def __init__(self):\n        self.args = 1\n"),
     ("L26", "class Pile:\n    def __init__(self):\n        self.real = 1\n"),
@@ -271,6 +283,7 @@ class PackageTest(unittest.TestCase):
         names = [path.name for path in package_files()]
         for name in (
             "__init__.py", "errors.py", "rows.py", "distances.py", "plan.py", "pairs.py", "heights.py",
+            "ledger.py", "onward.py", "turns.py", "laying.py",
         ):
             self.assertIn(name, names)
 
